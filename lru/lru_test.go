@@ -108,6 +108,17 @@ func TestOtherTypes(t *testing.T) {
 	if f.Len() != 2 || len(f.Keys()) != 2 {
 		t.Errorf("%v: a key that is not like itself", f.Keys())
 	}
+	a := lru.New[any, int](2)
+	for range 3 {
+		a.Put([]int{1}, 1)
+		a.Put("a", 2)
+	}
+	if _, is := a.Get([]int{1}); is || a.Len() != 2 {
+		t.Error("a key that can't be held against others")
+	}
+	if v, is := a.Get("a"); v != 2 || !is {
+		t.Error("a key beside one that can't be held against others")
+	}
 }
 
 // TestAgainstPlainList does the same to stores of many capacities, and to a list of what was used, the last one ahead.

@@ -203,6 +203,28 @@ func TestExpressions(t *testing.T) {
 	}
 }
 
+// TestSignsThatBind: of each two signs the one that binds more strongly takes its sides first, and of two that bind alike the left one.
+func TestSignsThatBind(t *testing.T) {
+	strengths := map[string]int{"or": 1, "and": 2, "==": 3, "<": 3, "+": 4, "-": 4, "..": 4, "*": 5}
+	for one, m := range strengths {
+		for two, n := range strengths {
+			want := "let x=Bin:" + two + "(Bin:" + one + "(Name:a,Name:b),Name:c)\n"
+			if n > m {
+				want = "let x=Bin:" + one + "(Name:a,Bin:" + two + "(Name:b,Name:c))\n"
+			}
+			if got := parsed(t, "let x = a "+one+" b "+two+" c", false); got != want {
+				t.Errorf("a %s b %s c: %s", one, two, got)
+			}
+		}
+		for _, sign := range []string{"not", "-"} {
+			want := "let x=Bin:" + one + "(Un:" + sign + "(Name:a),Name:b)\n"
+			if got := parsed(t, "let x = "+sign+" a "+one+" b", false); got != want {
+				t.Errorf("%s a %s b: %s", sign, one, got)
+			}
+		}
+	}
+}
+
 func wrong(t *testing.T, source string, code api.Errno, at int) {
 	t.Helper()
 	l, err := parse.Parse(source)

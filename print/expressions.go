@@ -15,9 +15,6 @@ const (
 )
 
 func (p *printer) strength(e *api.Expr) int {
-	if e == nil {
-		return tight
-	}
 	of, is := p.kinds[e.Kind]
 	if e.Kind == api.ExBin {
 		of, is = p.signs[e.Text]

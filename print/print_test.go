@@ -75,6 +75,41 @@ func TestExpressions(t *testing.T) {
 	}
 }
 
+// TestSignsThatBind: parentheses stand where they must, and nowhere else.
+func TestSignsThatBind(t *testing.T) {
+	strengths := map[string]int{"or": 1, "and": 2, "==": 3, "<": 3, "+": 4, "-": 4, "..": 4, "*": 5}
+	printed := func(source, want string) {
+		t.Helper()
+		if got, err := print.Print(parsed(t, "let x = "+source)); got != "let x = "+want+"\n" || err != api.OK {
+			t.Errorf("%s: %q, %v", source, got, err)
+		}
+	}
+	for one, m := range strengths {
+		for two, n := range strengths {
+			left, right := "(a "+one+" b) "+two+" c", "a "+one+" (b "+two+" c)"
+			plain := "a " + one + " b " + two + " c"
+			if m >= n {
+				printed(left, plain)
+				printed(right, right)
+			} else {
+				printed(left, left)
+				printed(right, plain)
+			}
+		}
+		for _, weak := range []string{"(if a then b else c)", "(let a = b in c)", "(fn() => b)"} {
+			printed(weak+" "+one+" a", weak+" "+one+" a")
+			printed("a "+one+" "+weak, "a "+one+" "+weak)
+		}
+		printed("(not a) "+one+" -b", "not a "+one+" -b")
+		printed("not (a "+one+" b)", "not (a "+one+" b)")
+		printed("(a "+one+" b)(c).d", "(a "+one+" b)(c).d")
+	}
+	for _, weak := range []string{"(if a then b else c)", "(let a = b in c)", "(fn() => b)"} {
+		printed("-"+weak, "-"+weak)
+		printed(weak+".a", weak+".a")
+	}
+}
+
 func let(e *api.Expr) []*api.Decl {
 	return []*api.Decl{{Kind: api.DeLet, Name: "x", E: e}}
 }

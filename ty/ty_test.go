@@ -149,6 +149,26 @@ func TestFieldsOfKinds(t *testing.T) {
 	}
 }
 
+// TestAllBytes: which bytes a field's name may have, and begin with, and which a named type's.
+func TestAllBytes(t *testing.T) {
+	const letters = "abcdefghijklmnopqrstuvwxyzABCDEFGHIJKLMNOPQRSTUVWXYZ_"
+	for i := range 256 {
+		b := string([]byte{byte(i)})
+		for _, c := range []struct {
+			t    *api.Type
+			more string
+		}{
+			{&api.Type{Kind: api.TyRec, Names: []string{b}, Args: []*api.Type{intT}}, ""},
+			{&api.Type{Kind: api.TyRec, Names: []string{"a" + b}, Args: []*api.Type{intT}}, "0123456789"},
+			{named(b), "0123456789-/."},
+		} {
+			if (ty.Check(c.t) == api.OK) != strings.Contains(letters+c.more, b) {
+				t.Errorf("%q in %v", b, *c.t)
+			}
+		}
+	}
+}
+
 func TestSame(t *testing.T) {
 	whole := func() *api.Type {
 		return &api.Type{Kind: 42, Name: "n", Names: []string{"a"}, Args: []*api.Type{named("x"), nil}, Ret: strT}
