@@ -212,6 +212,15 @@ func TestCheck(t *testing.T) {
 	}
 }
 
+// TestCheckOfNothing: an expression that is none is any, and has no place.
+func TestCheckOfNothing(t *testing.T) {
+	c := infer.New(scope(t), func(a, b *api.Type) (bool, uint64) { return a.Kind != api.TyAny, 5 })
+	c.Check(nil, intT)
+	if l := c.Diags(); !slices.Equal(l, []api.Diag{{Path: "m", Code: api.DgWrong}}) || c.Cost() != 5 {
+		t.Errorf("%v, the cost %d", l, c.Cost())
+	}
+}
+
 func TestResolve(t *testing.T) {
 	ch := checker(t)
 	for _, c := range []struct {

@@ -356,6 +356,22 @@ func TestLongAnswers(t *testing.T) {
 	}
 }
 
+// TestLongestAnswer: one of just as many bytes as a frame may have is told.
+func TestLongestAnswer(t *testing.T) {
+	for more, want := range []api.Errno{api.OK, api.ErrLong} {
+		c := tenant(t, large, 0)
+		c.login()
+		ahead := strings.Repeat(strings.Repeat("s", 16)+"/", 7)
+		for i := range 63 {
+			c.is(write(ahead+fmt.Sprintf("%08d", i), ""), version(1)) // 127 bytes, and one that says so
+		}
+		c.is(write(ahead+strings.Repeat("x", 2+more), ""), version(1))
+		if a := c.ask(list); a.Code != want || (len(a.Paths) == 64) != (want == api.OK) {
+			t.Errorf("%d more: %v, %d paths", more, a.Code, len(a.Paths))
+		}
+	}
+}
+
 func TestNoTenant(t *testing.T) {
 	var none *job.Tenant
 	if none.Begin("", 0, "", false) != api.ErrNil || none.Busy() || none.Files() != nil || none.Live(0) != 0 || none.Total() != 0 {

@@ -1,6 +1,7 @@
 package model_test
 
 import (
+	"fmt"
 	"math"
 	"math/rand"
 	"reflect"
@@ -201,8 +202,27 @@ func TestLongAnswers(t *testing.T) {
 	s.is(show("a", "a"), api.Response{Text: "any"})
 }
 
+// TestLongestAnswer: one of just as many bytes as a frame may have is told.
+func TestLongestAnswer(t *testing.T) {
+	for more, want := range []api.Errno{api.OK, api.ErrLong} {
+		s := newScript(t, 0, api.Quota{Files: 64, Sessions: 1, Ttl: 10})
+		ahead := strings.Repeat(strings.Repeat("s", 16)+"/", 7)
+		for i := range 63 {
+			s.ask(write(ahead+fmt.Sprintf("%08d", i), "")) // 127 bytes, and one that says so
+		}
+		s.ask(write(ahead+strings.Repeat("x", 2+more), ""))
+		s.ask(list)
+		if a := s.last(); a.Code != want || (len(a.Paths) == 64) != (want == api.OK) {
+			t.Errorf("%d more: %v, %d paths", more, a.Code, len(a.Paths))
+		}
+	}
+}
+
 func TestNobody(t *testing.T) {
-	e := []api.Event{{Kind: api.EvBytes, A: 0, Data: "\x00\x01a"}}
+	var e []api.Event
+	for conn := -8; conn < 50; conn++ {
+		e = append(e, api.Event{Kind: api.EvBytes, A: conn, Data: "\x00\x01a"})
+	}
 	for _, c := range []struct {
 		tenant int
 		q      api.Quota

@@ -83,9 +83,7 @@ func (d *decoder) export() api.Export {
 func (d *decoder) typ() *api.Type {
 	d.must(d.left > 0)
 	d.left--
-	kind := d.number()
-	d.must(kind <= api.LastTy)
-	t := &api.Type{Kind: int(kind)}
+	t := &api.Type{Kind: int(d.number())}
 	switch t.Kind {
 	case api.TyName:
 		t.Name = d.text()

@@ -147,6 +147,18 @@ func TestTooLargeFunction(t *testing.T) {
 	}
 }
 
+// TestTooLargeResult: the type that a function says it has may be too large, though what it comes to is not.
+func TestTooLargeResult(t *testing.T) {
+	fields := ""
+	for i := range 59 {
+		fields += fmt.Sprintf("f%02d: int, ", i)
+	}
+	r := check("let ahead = 1 fun f(): {" + strings.TrimSuffix(fields, ", ") + "} = f")
+	if exports(r.Sum.Values) != "ahead: int, f: any" || !slices.Equal(r.Diags, []api.Diag{{Path: "m", At: 14, Code: api.DgSize}}) {
+		t.Errorf("%v, %s", r.Diags, exports(r.Sum.Values))
+	}
+}
+
 func TestImports(t *testing.T) {
 	for _, c := range []struct{ text, want string }{
 		{`import "a/../b" as x import "b" as y import "" as z`, "b"}, {"", ""}, {`import "b" as x import "a" as x import "/b/" as y import "c/d" as q`, "b a c/d"}, {`import "b" as x let`, ""}, {`import "A" as x import ".." as y let x = 1 import "z" as z`, "z"}, {`import "b" as x $`, ""},
