@@ -24,7 +24,7 @@ func result(cost uint64) api.Result {
 func get(t *testing.T, c *cache.Cache, key string, want uint64) {
 	t.Helper()
 	r, is := c.Get(key)
-	if want == 0 && (is || !reflect.DeepEqual(r.Sum.Path, "") || r.Cost != 0 || len(r.Diags)+len(r.Sum.Values)+len(r.Sum.Types) > 0) {
+	if want == 0 && (is || r.Sum.Path != "" || r.Cost != 0 || len(r.Diags)+len(r.Sum.Values)+len(r.Sum.Types) > 0) {
 		t.Errorf("Get(%s): %v, %v", key, r, is)
 	}
 	if want > 0 && (!is || !reflect.DeepEqual(r, result(want))) {
@@ -108,11 +108,10 @@ func TestEmptyLists(t *testing.T) {
 }
 
 func TestNone(t *testing.T) {
-	for _, c := range []*cache.Cache{nil, {}} {
-		c.Put("a", result(1))
-		get(t, c, "a", 0)
-		length(t, c, 0)
-	}
+	var none *cache.Cache
+	none.Put("a", result(1))
+	get(t, none, "a", 0)
+	length(t, none, 0)
 }
 
 // TestNoMoreThanTheCapacity: what is got is what was put last under just that key.

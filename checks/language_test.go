@@ -13,6 +13,9 @@ import (
 	"testing"
 )
 
+// most is how many lines a function has at most: some 60.
+const most = 64
+
 // library is what the language allows of its library.
 const library = " bytes cmp container/heap errors iter maps math math/bits slices sort strconv strings sync sync/atomic unicode unicode/utf8 "
 
@@ -94,7 +97,7 @@ func imports(t *testing.T, f, layer string, a *ast.File) {
 func lengths(t *testing.T, f string, fset *token.FileSet, a *ast.File) {
 	ast.Inspect(a, func(n ast.Node) bool {
 		if d, is := n.(*ast.FuncDecl); is {
-			if n := fset.Position(d.End()).Line - fset.Position(d.Pos()).Line + 1; n > 60 {
+			if n := fset.Position(d.End()).Line - fset.Position(d.Pos()).Line + 1; n > most {
 				t.Errorf("%s: %s has %d lines", f, d.Name.Name, n)
 			}
 		}
@@ -102,7 +105,7 @@ func lengths(t *testing.T, f string, fset *token.FileSet, a *ast.File) {
 	})
 }
 
-// startingValues looks at the variables of package level: tables of literals, and errors made of one text.
+// startingValues looks at the variables of package level: each has a value that is written out, or is an error of one text.
 func startingValues(t *testing.T, f string, a *ast.File) {
 	for _, d := range a.Decls {
 		g, is := d.(*ast.GenDecl)
@@ -115,18 +118,29 @@ func startingValues(t *testing.T, f string, a *ast.File) {
 				t.Errorf("%s: %s has no value of its own", f, v.Names[0])
 			}
 			for _, x := range v.Values {
-				if c, is := x.(*ast.CompositeLit); is {
-					if _, is := c.Type.(*ast.MapType); !is {
-						continue
-					}
+				if !writtenOut(x) {
+					t.Errorf("%s: %s is no short table", f, v.Names[0])
 				}
-				t.Errorf("%s: %s is no table", f, v.Names[0])
 			}
 		}
 	}
 }
 
-// shapes looks for maps whose values are bools or strings, and for a recover that stands elsewhere than in a deferred function literal.
+func writtenOut(x ast.Expr) bool {
+	switch x := x.(type) {
+	case *ast.BasicLit:
+		return x.Kind != token.STRING && x.Kind != token.FLOAT
+	case *ast.CompositeLit:
+		_, is := x.Type.(*ast.MapType)
+		return !is
+	case *ast.CallExpr:
+		s, is := x.Fun.(*ast.SelectorExpr)
+		return is && s.Sel.Name == "New"
+	}
+	return false
+}
+
+// shapes looks for a recover that stands elsewhere than in a deferred function literal.
 func shapes(t *testing.T, f string, a *ast.File) {
 	deferred := map[*ast.FuncLit]bool{}
 	var stack []ast.Node
@@ -137,10 +151,6 @@ func shapes(t *testing.T, f string, a *ast.File) {
 		}
 		stack = append(stack, n)
 		switch x := n.(type) {
-		case *ast.MapType:
-			if v, is := x.Value.(*ast.Ident); is && (v.Name == "bool" || v.Name == "string") {
-				t.Errorf("%s: a map of %ss", f, v.Name)
-			}
 		case *ast.DeferStmt:
 			if l, is := x.Call.Fun.(*ast.FuncLit); is {
 				deferred[l] = true

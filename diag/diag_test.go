@@ -38,7 +38,7 @@ func TestSort(t *testing.T) {
 	if got := diag.Sort(l); !slices.Equal(got, want) {
 		t.Errorf("%v", got)
 	}
-	if diag.Sort(nil) != nil {
+	if len(diag.Sort(nil)) != 0 {
 		t.Error("none")
 	}
 }
@@ -99,7 +99,7 @@ func TestWrongBytes(t *testing.T) {
 		"02 01 61 02 06 01 61 02 06", "02 01 62 02 06 01 61 02 06", "02 01 61 03 06 01 61 02 06", "02 01 61 02 06 01 61 02 05", "01 01 61 fb 80 00 00 00 01", "01 01 61 ff ff ff ff ff ff ff ff ff 01", "01 01 61 ff 80 00 00 00 00 00 00 02 06", "01 01 61 02 ff 00 00 00 01 00 00 00 06", "01 01 61 02 fc 01 00 00 00 06",
 		"01 c9 " + strings.Repeat("70", 201) + " 00 01", "01 f1 00 00 01",
 	} {
-		if got, err := diag.Decode(unhex(t, s)); err != api.ErrForm || got != nil {
+		if got, err := diag.Decode(unhex(t, s)); err != api.ErrForm || len(got) > 0 {
 			t.Errorf("%s: %v, %v", s, got, err)
 		}
 	}

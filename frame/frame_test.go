@@ -90,8 +90,6 @@ func TestNone(t *testing.T) {
 	if none.Broken() {
 		t.Error("one that is none is broken")
 	}
-	var zero frame.Cutter
-	feed(t, &zero, "\x00\x01a", "a")
 }
 
 // TestPieces: it does not matter in which pieces a stream comes.

@@ -62,16 +62,12 @@ func TestOrders(t *testing.T) {
 
 func TestNone(t *testing.T) {
 	for i, g := range []*graph.Graph{graph.New([]string{"a", "a"}, [][]string{nil, nil}), graph.New([]string{"a"}, nil), graph.New(nil, [][]string{nil}), graph.New([]string{"a", "b", "a"}, [][]string{{"b"}, nil, nil}), nil} {
-		if g != nil || g.Cyclic("a") || g.Order() != nil || g.Above("a") != nil {
+		if g != nil || g.Cyclic("a") || len(g.Order()) > 0 || len(g.Above("a")) > 0 {
 			t.Errorf("%d is a graph", i)
 		}
 	}
 	if graph.New(nil, nil) == nil {
 		t.Error("a graph without paths is one")
-	}
-	var zero graph.Graph
-	if zero.Cyclic("a") || len(zero.Order()) != 0 || len(zero.Above("a")) != 0 {
-		t.Error("a graph of nothing")
 	}
 }
 

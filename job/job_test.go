@@ -5,6 +5,7 @@ import (
 	"math"
 	"math/rand"
 	"reflect"
+	"slices"
 	"strings"
 	"testing"
 
@@ -80,7 +81,7 @@ func (c *client) ask(r api.Request) api.Response {
 
 func (c *client) is(r api.Request, want api.Response) {
 	c.Helper()
-	if got := c.ask(r); !reflect.DeepEqual(got, want) {
+	if got := c.ask(r); !reflect.DeepEqual(plain(got), want) {
 		c.Errorf("%.60v: %.200v, not %.200v", r, got, want)
 	}
 }
@@ -92,6 +93,17 @@ func (c *client) login() {
 		c.Fatalf("login: %v", a)
 	}
 	c.token = a.Text
+}
+
+// plain is a response whose lists are nil, where they are empty.
+func plain(r api.Response) api.Response {
+	if len(r.Paths) == 0 {
+		r.Paths = nil
+	}
+	if len(r.Diags) == 0 {
+		r.Diags = nil
+	}
+	return r
 }
 
 func code(err api.Errno) api.Response { return api.Response{Code: err} }
@@ -374,7 +386,7 @@ func TestLongestAnswer(t *testing.T) {
 
 func TestNoTenant(t *testing.T) {
 	var none *job.Tenant
-	if none.Begin("", 0, "", false) != api.ErrNil || none.Busy() || none.Files() != nil || none.Live(0) != 0 || none.Total() != 0 {
+	if none.Begin("", 0, "", false) != api.ErrNil || none.Busy() || len(none.Files()) > 0 || none.Live(0) != 0 || none.Total() != 0 {
 		t.Error("a tenant that is none")
 	}
 	if s, done := none.Step(); s != "" || done {
@@ -384,13 +396,8 @@ func TestNoTenant(t *testing.T) {
 		t.Error("Spent")
 	}
 	c := tenant(t, small, 0)
-	if real, charge := c.Spent(); real != 0 || charge != 0 || c.Busy() || c.Total() != 0 || c.Files() != nil || c.Live(0) != 0 {
+	if real, charge := c.Spent(); real != 0 || charge != 0 || c.Busy() || c.Total() != 0 || len(c.Files()) > 0 || c.Live(0) != 0 {
 		t.Error("a tenant to which nothing came")
-	}
-	for _, x := range []*job.Tenant{{}, job.New("s", large, nil, nil)} {
-		c := &client{T: t, Tenant: x}
-		c.ask(api.Request{Kind: api.RqLogin, Text: "s"})
-		c.ask(check)
 	}
 }
 
@@ -445,7 +452,7 @@ func TestWhatItHangsOn(t *testing.T) {
 		kept, remembered := cache.New(rnd.Intn(4)), memo.New(store.New(rnd.Intn(5)), rnd.Intn(5))
 		shared := &client{T: t, Tenant: job.New("s", q, kept, remembered)}
 		other := &client{T: t, Tenant: job.New("s", large, kept, remembered)}
-		alone, plain := tenant(t, q, 0), tenant(t, q, 100)
+		alone, fewer := tenant(t, q, 0), tenant(t, q, 100)
 		other.login()
 		token, now := "", uint64(0)
 		for range 150 {
@@ -455,7 +462,7 @@ func TestWhatItHangsOn(t *testing.T) {
 			if rnd.Intn(6) == 0 {
 				now++
 			}
-			shared.now, alone.now, plain.now = now, now, now
+			shared.now, alone.now, fewer.now = now, now, now
 			body, err := msg.Encode(some(rnd, token))
 			if err != api.OK {
 				continue
@@ -463,19 +470,19 @@ func TestWhatItHangsOn(t *testing.T) {
 			drawn := rnd.Intn(5) > 0
 			a, _, charge := shared.bytes(body, "n", drawn)
 			b, _, also := alone.bytes(body, "n", drawn)
-			if !reflect.DeepEqual(a, b) || charge != also {
+			if !reflect.DeepEqual(plain(a), plain(b)) || charge != also {
 				t.Fatalf("%v, not %v", a, b)
 			}
 			if a.Code == api.OK || a.Code == api.ErrLong {
-				if c, _, _ := plain.bytes(body, "n", drawn); !reflect.DeepEqual(a, c) {
+				if c, _, _ := fewer.bytes(body, "n", drawn); !reflect.DeepEqual(plain(a), plain(c)) {
 					t.Fatalf("%v, not %v: what is refused changes something", a, c)
 				}
 			}
 			if len(a.Text) == 64 && a.Code == api.OK {
 				token = a.Text
 			}
-			for _, x := range []*client{alone, plain} {
-				if !reflect.DeepEqual(x.Files(), shared.Files()) || x.Live(now) != shared.Live(now) || x.Total() != shared.Total() {
+			for _, x := range []*client{alone, fewer} {
+				if !slices.Equal(x.Files(), shared.Files()) || x.Live(now) != shared.Live(now) || x.Total() != shared.Total() {
 					t.Fatal("the state")
 				}
 			}

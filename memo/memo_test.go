@@ -106,8 +106,6 @@ func TestNoMemo(t *testing.T) {
 	if none.Len() != 0 {
 		t.Error("Len")
 	}
-	var zero memo.Memo
-	asked(t, &zero, intT, intT, true, 1)
 	s := store.New(0)
 	m := memo.New(s, -7)
 	asked(t, m, intT, anyT, true, 1)

@@ -99,6 +99,17 @@ func TestWrongRequests(t *testing.T) {
 	}
 }
 
+// plain is a response whose lists are nil, where they are empty.
+func plain(r api.Response) api.Response {
+	if len(r.Paths) == 0 {
+		r.Paths = nil
+	}
+	if len(r.Diags) == 0 {
+		r.Diags = nil
+	}
+	return r
+}
+
 func TestResponses(t *testing.T) {
 	for _, c := range []struct {
 		r    api.Response
@@ -114,7 +125,7 @@ func TestResponses(t *testing.T) {
 		}
 		want := c.r
 		want.Diags = diag.Sort(want.Diags)
-		if got, err := msg.Answered(s); err != api.OK || !reflect.DeepEqual(got, want) {
+		if got, err := msg.Answered(s); err != api.OK || !reflect.DeepEqual(plain(got), plain(want)) {
 			t.Errorf("%x: %v, %v", s, got, err)
 		}
 	}
@@ -136,7 +147,7 @@ func TestWrongResponses(t *testing.T) {
 		"ff ff ff ff ff ff ff ff ff 00 00 01 00 00", "00 00 ff ff ff ff ff ff ff ff ff 01 00 00", "00 00 00 01 00 f1 00", "00 00 f1 00 01 00 00", "00 00 00 05 01 01 61 02 06",
 		"00 00 00 09 02 01 62 01 01 01 61 01 01 00",
 	} {
-		if r, err := msg.Answered(unhex(t, s)); err != api.ErrForm || !reflect.DeepEqual(r, api.Response{}) {
+		if r, err := msg.Answered(unhex(t, s)); err != api.ErrForm || !reflect.DeepEqual(plain(r), api.Response{}) {
 			t.Errorf("%s: %v, %v", s, r, err)
 		}
 	}

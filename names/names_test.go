@@ -177,7 +177,7 @@ func TestLostAndBroken(t *testing.T) {
 			is(t, s, "u", "V", "l.V", true)
 			is(t, s, "u", "nothing", "", false)
 		}
-		if b, has := s.Body("l.V"); has == c.dark || has && b != strT {
+		if b, has := s.Body("l.V"); has == c.dark || has && ty.Text(b) != "str" {
 			t.Errorf("%s: Body", c.source)
 		}
 	}
@@ -258,7 +258,7 @@ func TestNotKept(t *testing.T) {
 	is(t, s, "u", "V", "l.V", true)
 	is(t, s, "", "N", "m.N", true)
 	value(t, s, "u", "f", "fn() -> l.V", true, true)
-	if b, has := s.Body("l.V"); !has || b != strT {
+	if b, has := s.Body("l.V"); !has || ty.Text(b) != "str" {
 		t.Error("Body")
 	}
 	s.Types()[0].Name = "changed"
@@ -269,16 +269,14 @@ func TestNotKept(t *testing.T) {
 
 func TestNoScope(t *testing.T) {
 	var none *names.Scope
-	if x, diags := none.Resolve(written(t, "X")); ty.Text(x) != "any" || diags != nil {
+	if x, diags := none.Resolve(written(t, "X")); ty.Text(x) != "any" || len(diags) > 0 {
 		t.Error("Resolve")
 	}
 	is(t, none, "", "X", "", false)
 	value(t, none, "u", "f", "", false, false)
-	if b, has := none.Body("m.T"); b != nil || has || none.Path() != "" || none.Types() != nil {
+	if b, has := none.Body("m.T"); b != nil || has || none.Path() != "" || len(none.Types()) > 0 {
 		t.Error("a scope that is none")
 	}
-	var zero names.Scope
-	is(t, &zero, "u", "X", "", false)
 }
 
 // TestWhereThePathIsNone: types of such a module may not be, so nothing is made of them.

@@ -229,7 +229,7 @@ func wrong(t *testing.T, source string, code api.Errno, at int) {
 	t.Helper()
 	l, err := parse.Parse(source)
 	var f *api.Fault
-	if !errors.As(err, &f) || *f != (api.Fault{Code: code, At: at}) || l != nil {
+	if !errors.As(err, &f) || *f != (api.Fault{Code: code, At: at}) || len(l) > 0 {
 		t.Errorf("Parse(%q): %v, not %d at %d", source, err, code, at)
 	}
 }
@@ -477,7 +477,7 @@ func TestAnyTokens(t *testing.T) {
 			continue
 		}
 		f := err.(*api.Fault)
-		if f.At > len(text) || f.At < len(text) && (text[f.At] == ' ' || f.At > 0 && text[f.At-1] != ' ') || l != nil {
+		if f.At > len(text) || f.At < len(text) && (text[f.At] == ' ' || f.At > 0 && text[f.At-1] != ' ') || len(l) > 0 {
 			t.Fatalf("%q: %v", text, err)
 		}
 	}

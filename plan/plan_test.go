@@ -98,7 +98,7 @@ func TestNone(t *testing.T) {
 	if plan.New(nil, []string{"a"}) != nil {
 		t.Error("a plan without a graph")
 	}
-	for _, p := range []*plan.Plan{nil, {}, plan.New(example(), nil), plan.New(of(), []string{"a"})} {
+	for _, p := range []*plan.Plan{nil, plan.New(example(), nil), plan.New(of(), []string{"a"})} {
 		next(t, p, "")
 		p.Done("a", true)
 		wait(t, p, 0)

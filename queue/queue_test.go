@@ -58,9 +58,6 @@ func TestNone(t *testing.T) {
 	first(t, none, queue.Item{}, false)
 	take(t, none, queue.Item{}, false)
 	wait(t, none, 0)
-	var zero queue.Queue
-	zero.Put(item(1))
-	take(t, &zero, item(1), true)
 }
 
 // TestZeroItems: one of which all is zero waits like any other.

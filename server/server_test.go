@@ -174,11 +174,6 @@ func TestNone(t *testing.T) {
 	if none.Out(0) != "" || none.Waits(0) != 0 || none.Drain() != 0 || none.Cached() != 0 || none.Tenant(0) != nil {
 		t.Error("a server that is none")
 	}
-	var zero server.Server
-	do(t, &zero, api.EvBytes, 0, "", api.ErrArg)
-	if zero.Drain() != 0 || zero.Cached() != 0 {
-		t.Error("a server without tenants")
-	}
 	s := made(t, 1, 1, 1)
 	for _, n := range []int{-1, 4, math.MinInt, math.MaxInt} {
 		if s.Out(n) != "" || s.Waits(n) != 0 || s.Tenant(n) != nil {

@@ -174,10 +174,6 @@ func TestNoSessions(t *testing.T) {
 	if none.Use("", 0) != api.ErrNil || none.Logout("", 0) != api.ErrNil || none.Live(0) != 0 {
 		t.Error("sessions that are none")
 	}
-	var zero sess.Sessions
-	if _, err := zero.Login("", "", 0); err != api.ErrFull || zero.Use("", 0) != api.ErrAuth {
-		t.Error("sessions without slots")
-	}
 }
 
 // TestAgainstPlainList does the same to sessions and to a list of tokens and times.

@@ -154,10 +154,6 @@ func TestNoStore(t *testing.T) {
 	if x, is := none.Type(1); x != nil || is || none.Pins(1) != 0 || parts(none, 1) != parts(store.New(0), 1) {
 		t.Error("a store that is none")
 	}
-	var zero store.Store
-	intern(t, &zero, fun(intT), 2)
-	release(t, &zero, 2, api.OK)
-	length(t, &zero, 0)
 }
 
 // TestRoom: who goes is neither pinned nor held, and was used least lately.

@@ -3,7 +3,6 @@ package sums_test
 import (
 	"encoding/hex"
 	"math/rand"
-	"reflect"
 	"strings"
 	"testing"
 
@@ -109,7 +108,7 @@ func TestWrongBytes(t *testing.T) {
 		"00 00 01 01 61 06 00 00", "00 00 01 01 61 06 01 20 00", "00 00 01 01 61 07 02 01 62 02 01 61 02 00", "00 00 01 01 61 07 01 01 31 02 00", "00 00 01 01 61 09 01 02 00", "00 00 01 01 61 09 02 04 02 00", "00 00 01 01 61 09 02 01 02 00", "00 00 01 01 61 08 00 00", "00 00 01 01 61 09 00 00",
 		"00 00 ff ff ff ff ff ff ff ff ff", "00 00 01 01 61 08 ff ff ff ff ff ff ff ff ff 02 02 02", "00 00 00 01 19 " + strings.Repeat("61", 25) + " 02", "f1 00 00 00 00", "00 f1 00 00 00", "00 01 00",
 	} {
-		if got, err := sums.Decode(unhex(t, s)); err != api.ErrForm || !reflect.DeepEqual(got, api.Summary{}) {
+		if got, err := sums.Decode(unhex(t, s)); err != api.ErrForm || got.Path != "" || got.Broken || len(got.Values)+len(got.Types) > 0 {
 			t.Errorf("%s: %v, %v", s, got, err)
 		}
 	}

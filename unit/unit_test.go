@@ -3,7 +3,6 @@ package unit_test
 import (
 	"fmt"
 	"math/rand"
-	"reflect"
 	"slices"
 	"strings"
 	"testing"
@@ -79,6 +78,12 @@ func TestModules(t *testing.T) {
 	}
 }
 
+// alike: are two results, types as their texts?
+func alike(a, b api.Result) bool {
+	return slices.Equal(a.Diags, b.Diags) && a.Cost == b.Cost && a.Sum.Path == b.Sum.Path && a.Sum.Broken == b.Sum.Broken &&
+		exports(a.Sum.Values) == exports(b.Sum.Values) && exports(a.Sum.Types) == exports(b.Sum.Types)
+}
+
 func TestNoSource(t *testing.T) {
 	deep := "let x = " + strings.Repeat("(", 50)
 	for _, c := range []struct {
@@ -86,14 +91,14 @@ func TestNoSource(t *testing.T) {
 		at   int
 	}{{"let x = ", 7 + 1}, {"let x =", 7}, {"let x = $", 8}, {"x", 0}, {deep, 48}, {"let x = 1 let", 13}} {
 		want := api.Result{Diags: []api.Diag{{Path: "m", At: c.at, Code: api.DgSyntax}}, Sum: api.Summary{Path: "m", Broken: true}, Cost: uint64(len(c.text)) + 1}
-		if got := check(c.text); !reflect.DeepEqual(got, want) {
+		if got := check(c.text); !alike(got, want) {
 			t.Errorf("%s: %v", c.text, got)
 		}
 	}
-	if got := unit.Check("m", "let x = 1", nil, nil); !reflect.DeepEqual(got, api.Result{}) {
+	if got := unit.Check("m", "let x = 1", nil, nil); !alike(got, api.Result{}) {
 		t.Errorf("without a function: %v", got)
 	}
-	if got := unit.Check("m", "let", nil, nil); !reflect.DeepEqual(got, api.Result{}) {
+	if got := unit.Check("m", "let", nil, nil); !alike(got, api.Result{}) {
 		t.Errorf("without a function: %v", got)
 	}
 }
@@ -239,7 +244,7 @@ func TestWhatFollows(t *testing.T) {
 		}
 		// What nobody imports makes no difference.
 		more := api.Import{Path: "k", There: true, Sum: api.Summary{Path: "l", Types: []api.Export{{Name: "V", T: &api.Type{Kind: api.TyInt}}}}}
-		if !reflect.DeepEqual(check(text, more, l, more), r) {
+		if !alike(check(text, more, l, more), r) {
 			t.Fatalf("%s: an import that is none", text)
 		}
 	}

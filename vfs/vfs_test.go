@@ -157,12 +157,9 @@ func TestNoFiles(t *testing.T) {
 	write(t, none, "..", "", 0, api.ErrNil)
 	rename(t, none, "a", "b", 0, api.ErrNil)
 	read(t, none, "a", api.File{}, api.ErrNil)
-	if none.Delete("a") != api.ErrNil || none.List() != nil || none.Bytes() != 0 || none.Copy() != nil {
+	if none.Delete("a") != api.ErrNil || len(none.List()) > 0 || none.Bytes() != 0 || none.Copy() != nil {
 		t.Error("files that are none")
 	}
-	var zero vfs.Files
-	write(t, &zero, "a", "", 0, api.ErrQuota)
-	rename(t, &zero, "a", "b", 0, api.ErrNone)
 }
 
 func TestListIsNew(t *testing.T) {

@@ -3,7 +3,6 @@ package whole_test
 import (
 	"fmt"
 	"math/rand"
-	"reflect"
 	"slices"
 	"strings"
 	"testing"
@@ -156,7 +155,7 @@ func TestWhatFollows(t *testing.T) {
 		}
 		mixed := slices.Clone(l)
 		rnd.Shuffle(len(mixed), func(i, j int) { mixed[i], mixed[j] = mixed[j], mixed[i] })
-		if again, n := whole.Check(mixed); !slices.Equal(again, told) || n != cost || !reflect.DeepEqual(whole.Sums(mixed), whole.Sums(l)) {
+		if again, n := whole.Check(mixed); !slices.Equal(again, told) || n != cost || values(whole.Sums(mixed)) != values(whole.Sums(l)) {
 			t.Fatalf("%v: the order matters", l)
 		}
 		for _, f := range l {

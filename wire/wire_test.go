@@ -145,10 +145,6 @@ func TestNoReader(t *testing.T) {
 	if r.Num() != 0 || r.Text() != "" || r.OK() || r.End() {
 		t.Error("a reader that is none is spent")
 	}
-	var zero wire.Reader
-	if zero.Num() != 0 || zero.OK() {
-		t.Error("nothing stands ahead")
-	}
 }
 
 func TestRowsRise(t *testing.T) {
