@@ -8,6 +8,8 @@ import (
 	"testing"
 
 	"lodger/api"
+	"lodger/parse"
+	"lodger/print"
 	"lodger/sub"
 	"lodger/tally"
 	"lodger/ty"
@@ -247,5 +249,78 @@ func TestWhatFollows(t *testing.T) {
 		if !alike(check(text, more, l, more), r) {
 			t.Fatalf("%s: an import that is none", text)
 		}
+	}
+}
+
+// looser is a written type in some of whose parts any stands.
+func looser(rnd *rand.Rand, t *api.TypeEx) *api.TypeEx {
+	if t == nil {
+		return nil
+	}
+	if rnd.Intn(4) == 0 {
+		return &api.TypeEx{Kind: api.TxAny}
+	}
+	c := *t
+	c.Args, c.Ret = looserAll(rnd, t.Args), looser(rnd, t.Ret)
+	return &c
+}
+
+func looserAll(rnd *rand.Rand, l []*api.TypeEx) []*api.TypeEx {
+	var out []*api.TypeEx
+	for _, t := range l {
+		out = append(out, looser(rnd, t))
+	}
+	return out
+}
+
+// looserIn is an expression in whose types, of names and behind a colon, any stands in some parts.
+func looserIn(rnd *rand.Rand, e *api.Expr) *api.Expr {
+	if e == nil {
+		return nil
+	}
+	c := *e
+	if e.Kind != api.ExRoll {
+		c.T = looser(rnd, e.T)
+	}
+	c.Types, c.Args = looserAll(rnd, e.Types), nil
+	for _, x := range e.Args {
+		c.Args = append(c.Args, looserIn(rnd, x))
+	}
+	c.L, c.R, c.C = looserIn(rnd, e.L), looserIn(rnd, e.R), looserIn(rnd, e.C)
+	return &c
+}
+
+// TestGradualGuarantee: where nothing is told of a module, nothing is told of it, but for sizes, with any in parts of its types.
+func TestGradualGuarantee(t *testing.T) {
+	in := library(t, `type V = str let v = roll V("a")`)
+	rnd := rand.New(rand.NewSource(2))
+	quiet := 0
+	for range 15000 {
+		text := module(rnd)
+		if len(text) > 200 || len(check(text, in).Diags) > 0 {
+			continue
+		}
+		quiet++
+		l, err := parse.Parse(text)
+		if err != nil {
+			t.Fatal(err)
+		}
+		for _, d := range l {
+			if d.Kind != api.DeType {
+				d.T, d.Types, d.E = looser(rnd, d.T), looserAll(rnd, d.Types), looserIn(rnd, d.E)
+			}
+		}
+		loose, code := print.Print(l)
+		if code != api.OK {
+			t.Fatalf("%s is not printed", text)
+		}
+		for _, d := range check(loose, in).Diags {
+			if d.Code != api.DgSize {
+				t.Fatalf("%s\n%s: %v", text, loose, d)
+			}
+		}
+	}
+	if quiet < 50 {
+		t.Errorf("of %d modules alone nothing is told", quiet)
 	}
 }
