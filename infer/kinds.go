@@ -28,7 +28,7 @@ func (c *Checker) name(e *api.Expr) *api.Type {
 func (c *Checker) field(e *api.Expr) *api.Type {
 	if e.L != nil && e.L.Kind == api.ExName && len(c.bound[e.L.Text]) == 0 {
 		if t, isAlias, known := c.scope.Value(e.L.Text, e.Text); known {
-			return sound(t)
+			return usable(t)
 		} else if isAlias {
 			return c.tell(e, api.DgName)
 		}
@@ -232,7 +232,7 @@ func (c *Checker) bodyOf(t *api.Type) (*api.Type, bool) {
 		return nil, false
 	}
 	body, is := c.scope.Body(t.Name)
-	return sound(body), is
+	return usable(body), is
 }
 
 func (c *Checker) roll(e *api.Expr) *api.Type {
