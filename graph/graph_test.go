@@ -92,7 +92,7 @@ func TestNotKept(t *testing.T) {
 
 // TestLong: many, one behind the other.
 func TestLong(t *testing.T) {
-	const n = 20000
+	const n = 2000
 	name := func(i int) string { return fmt.Sprintf("%05d", i) }
 	var paths []string
 	var imports [][]string
