@@ -145,6 +145,20 @@ func TestTypesOfOurOwn(t *testing.T) {
 	}
 }
 
+// TestNothingDeclared: in a scope of nothing each name is told, and told anew by each call alone.
+func TestNothingDeclared(t *testing.T) {
+	s, diags := names.New("a", nil, nil)
+	if len(diags) > 0 {
+		t.Errorf("New: %v", diags)
+	}
+	for range 2 {
+		x, diags := s.Resolve(&api.TypeEx{Kind: api.TxName, Name: "T", At: 3})
+		if ty.Text(x) != "any" || !slices.Equal(diags, []api.Diag{{Path: "a", At: 3, Code: api.DgType}}) {
+			t.Errorf("Resolve: %s, %v", ty.Text(x), diags)
+		}
+	}
+}
+
 func TestLostAndBroken(t *testing.T) {
 	broken := api.Import{Path: "b", There: true, Sum: api.Summary{Path: "b", Broken: true}}
 	for _, c := range []struct {
